@@ -124,7 +124,7 @@ func TestQuorate(t *testing.T) {
 		}
 	}
 	r := rand.New(rand.NewSource(1))
-	var seen [3]int // no set, not quorate, quorate
+	var seen [3]int // no set, quorate, not quorate
 	for range 100000 {
 		nodes := 1 + r.Intn(api.MaxNodes)
 		votes := randomVotes(r, nodes)
